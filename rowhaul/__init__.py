@@ -1,0 +1,1 @@
+"""Programs over rows too great for the room, led into passes over a slow store."""

@@ -1,0 +1,1 @@
+"""Runs, and merges of runs that stand beside one another."""

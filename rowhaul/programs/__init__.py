@@ -1,0 +1,1 @@
+"""Programs, their tables, and what they plainly tell."""

@@ -1,0 +1,1 @@
+"""Words, records, expressions and folds."""
