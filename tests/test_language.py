@@ -150,6 +150,59 @@ class Names(unittest.TestCase):
                 self.assertNotEqual(node.func.attr, "sort", path)
 
 
+def methods_and_attributes(node, classes):
+    """The methods of a class and the attributes that it assigns to its own objects, those of its bases too."""
+    methods = {part.name for part in node.body if isinstance(part, ast.FunctionDef)} - DOUBLE
+    attributes = {part.attr for part in ast.walk(node) if isinstance(part, ast.Attribute)
+                  and isinstance(part.ctx, ast.Store)}
+    for base in node.bases:
+        if base.id in classes:
+            more, others = methods_and_attributes(classes[base.id], classes)
+            methods, attributes = methods | more, attributes | others
+    return methods, attributes
+
+
+class Classes(unittest.TestCase):
+    def test_no_name_is_a_method_and_an_attribute(self):
+        classes = {node.name: node for _, node in everywhere(ast.ClassDef)}
+        told = [methods_and_attributes(node, classes) for node in classes.values()]
+        methods = set().union(*[one for one, _ in told])
+        attributes = set().union(*[other for _, other in told])
+        self.assertEqual(methods & attributes, set())
+
+    def test_attributes_that_are_read_are_assigned(self):
+        assigned = {node.attr for _, node in everywhere(ast.Attribute) if isinstance(node.ctx, ast.Store)}
+        own = {node.name for _, node in everywhere(ast.FunctionDef)}
+        for path, node in everywhere(ast.Attribute):
+            if isinstance(node.ctx, ast.Load):
+                self.assertIn(node.attr, assigned | own | METHODS, path)
+
+    def test_alike_begins_with_the_kind(self):
+        for path, node in everywhere(ast.FunctionDef):
+            if node.name == "__eq__":
+                self.assertIsInstance(node.body[0], ast.If, path)
+                self.assertTrue(ast.unparse(node.body[0].test).startswith("not isinstance(other, "), path)
+            if node.name == "__len__":
+                self.assertTrue(ast.unparse(node.body[-1]).startswith("return len("), path)
+
+    def test_nothing_is_called_that_a_table_tells_on_the_spot(self):
+        for path, node in everywhere(ast.Call):
+            self.assertIsInstance(node.func, (ast.Name, ast.Attribute), path)
+
+
+class Loops(unittest.TestCase):
+    CHANGES = ("append", "clear", "extend", "insert", "pop", "remove", "reverse", "setdefault", "update")
+
+    def test_what_is_gone_through_is_not_changed(self):
+        for path, loop in everywhere(ast.For):
+            names = {ast.unparse(part) for part in ast.walk(loop.iter) if isinstance(part, (ast.Name, ast.Attribute))}
+            for node in [part for statement in loop.body for part in ast.walk(statement)]:
+                if isinstance(node, ast.Call) and isinstance(node.func, ast.Attribute) and node.func.attr in self.CHANGES:
+                    self.assertNotIn(ast.unparse(node.func.value), names, (path, loop.lineno))
+                if isinstance(node, ast.Subscript) and not isinstance(node.ctx, ast.Load):
+                    self.assertNotIn(ast.unparse(node.value), names, (path, loop.lineno))
+
+
 class Statements(unittest.TestCase):
     def test_nothing_else(self):
         barred = (ast.AsyncFunctionDef, ast.Global, ast.Await, ast.JoinedStr, ast.GeneratorExp, ast.Yield,

@@ -12,10 +12,15 @@ def order_of(program, node):
 def is_idle(program, node):
     """Is it a sort whose input surely stands sorted by its keys already?"""
     check_node(program, node)
-    one = program[0][node]
-    if one[0] != "sort":
+    return idle_in(program[0], node)
+
+
+def idle_in(nodes, k):
+    """Is the k-th node an idle sort?"""
+    node = nodes[k]
+    if node[0] != "sort":
         return False
-    return _order_in(program[0], one[1])[:len(one[2])] == one[2]
+    return _order_in(nodes, node[1])[:len(node[2])] == node[2]
 
 
 def _order_in(nodes, k):

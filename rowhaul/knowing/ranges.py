@@ -12,7 +12,11 @@ _MOST_JOININGS = 4
 def ranges_of(program):
     """The ranges of the columns of each node, as a paper."""
     check_program(program)
-    nodes, _ = program
+    return _paper_of(program[0])
+
+
+def _paper_of(nodes):
+    """The ranges of the columns of each of these nodes."""
     mosts = mosts_in(nodes)
     paper = []
     for node in nodes:
@@ -122,14 +126,21 @@ def _carried_once(node, ranges, was):
 
 def safe_nodes(program):
     """The nodes that surely never fault."""
-    paper = ranges_of(program)
-    return _safe_by(program[0], paper)
+    check_program(program)
+    nodes, _ = program
+    return _safe_by(nodes, _paper_of(nodes))
 
 
 def needed(program):
     """The outputs, the nodes that aren't safe, and all on which these hang."""
-    safe = safe_nodes(program)
+    check_program(program)
+    return needed_in(program)
+
+
+def needed_in(program):
+    """The nodes that are needed of a program that is one."""
     nodes, outputs = program
+    safe = _safe_by(nodes, _paper_of(nodes))
     wanted = [k in outputs or k not in safe for k in range(len(nodes))]
     for k, node in reversed(list(enumerate(nodes))):
         if wanted[k]:

@@ -8,7 +8,7 @@ MOST_WORD = 10 ** 9
 
 # Records have a column more than nodes may have: a left record bears its number behind it.
 _MOST_COLUMNS = 9
-_MOST_OPS = 4
+MOST_OPS = 4
 _OPS = ("plus", "minus", "times", "over", "rest", "less", "same")
 
 
@@ -25,7 +25,7 @@ def is_record(thing):
 def is_expr(thing, width, *, carried=False):
     """Is it an expression over so many columns, a carried one where it may have what was?"""
     check_from(width, 0, _MOST_COLUMNS)
-    return _is_expr(thing, width, carried, _MOST_OPS)
+    return _is_expr(thing, width, carried, MOST_OPS)
 
 
 def _is_expr(thing, width, carried, ops):

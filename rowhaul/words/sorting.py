@@ -3,10 +3,10 @@
 
 def by_keys(keys, records):
     """The records sorted by the keys, those alike in all of them as they stood."""
-    marked = sorted([(_key_of(keys, record), place) for place, record in enumerate(records)])
+    marked = sorted([(key_by(keys, record), place) for place, record in enumerate(records)])
     return tuple([records[place] for _, place in marked])
 
 
-def _key_of(keys, record):
+def key_by(keys, record):
     """The words by which a record is sorted, so turned about that the least comes first."""
     return tuple([record[column] if way == "up" else -record[column] for column, way in keys])

@@ -1,0 +1,1 @@
+"""Ways, parts, passes, plans."""
