@@ -20,6 +20,10 @@ FUNCTIONS = {
                     "quarters(program,ways,one) fixed(program,ways,one) fits(program,room,ways,one) "
                     "told_room(program,room,ways,one) size_of(program,room,ways,part) fan_of(program,room,ways,part)",
     "plans.plans": "is_plan(program,room,thing)",
+    "plans.words": "words_of(program,room,ways,one,counts) mosts_of(program) plan_words(program,room,plan,*,counts=None)",
+    "search.sets": "closed_sets(program,ways)",
+    "search.least": "least(program,room) shows_least(program,room,thing)",
+    "search.rooms": "least_room(program) room_paper(program) shows_room(program,thing)",
     "machine.steps": "step_begin(program,k) stepped(program,k,held,record,number,*,table=()) step_end(program,k,held)",
     "machine.casts": "keys_of(program,part) cast_sorted(program,part,records) least_head(program,part,heads)",
     "texts.programs": "node_text(program,node) program_text(program) read_program(text)",
@@ -63,6 +67,7 @@ class Interface(unittest.TestCase):
     def test_numbers(self):
         forms = import_module("rowhaul.programs.forms")
         self.assertEqual((forms.MOST_NODES, forms.MOST_WIDTH, forms.MOST_ROWS), (10, 8, 400))
+        self.assertEqual(import_module("rowhaul.search.sets").MOST_SETS, 60)
 
 
 class Readme(unittest.TestCase):

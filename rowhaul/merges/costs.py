@@ -54,3 +54,29 @@ def splits_of(a, b, many):
 def split_cost(costs, a, h, b, many):
     """What it costs that runs a up to h become one and runs h up to b one less than so many."""
     return costs[place_of(a, h)][0] + costs[place_of(h, b)][many - 2]
+
+
+def least_moved(lengths, fan):
+    """How many records are moved at the least till no more runs stand than the fan."""
+    if len(lengths) <= fan:
+        return 0
+    return min(least_costs(lengths, fan)[place_of(0, len(lengths))])
+
+
+def run_lengths(count, size):
+    """The lengths of the runs that so many records make."""
+    return tuple([min(size, count - first) for first in range(0, count, size)])
+
+
+class Merges:
+    """How many records are moved ahead at the least. What was asked once is kept, as it is asked again and again."""
+
+    def __init__(self):
+        self._told = {}
+
+    def moved_of(self, count, size, fan):
+        """How many are moved of so many records, cast by this size."""
+        asked = (count, size, fan)
+        if asked not in self._told:
+            self._told[asked] = least_moved(run_lengths(count, size), fan)
+        return self._told[asked]

@@ -1,7 +1,7 @@
 """Runs of records, and mergings of runs that stand beside one another."""
 
 from rowhaul.errors import NoNumber
-from rowhaul.merges.costs import check_lengths, least_costs, place_of, split_cost, splits_of
+from rowhaul.merges.costs import check_lengths, least_costs, place_of, run_lengths, split_cost, splits_of
 from rowhaul.words.wholes import check_from, is_from, is_several, is_whole
 
 _MOST_ROWS = 400
@@ -12,7 +12,7 @@ def runs_of(count, size):
     check_from(count, 0, _MOST_ROWS)
     if not is_whole(size) or size < 1:
         raise NoNumber("no size of a run")
-    return tuple([min(size, count - first) for first in range(0, count, size)])
+    return run_lengths(count, size)
 
 
 def moved(lengths, fan, thing):

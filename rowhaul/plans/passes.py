@@ -2,12 +2,10 @@
 
 from rowhaul.errors import NoPass
 from rowhaul.plans.schemes import is_driver
-from rowhaul.plans.sizes import check_room, fan_in, has_its_fans, has_its_size, share_in, size_in
+from rowhaul.plans.sizes import MOST_QUARTERS, check_room, fan_in, has_its_fans, has_its_size, share_in, size_in
 from rowhaul.plans.ways import check_part, scheme_of
 from rowhaul.programs.forms import check_program
 from rowhaul.words.wholes import is_rising
-
-_MOST_QUARTERS = 3
 
 # What these hand on is under way by itself; all else hands on what is held already, or nothing.
 _UNDER_WAY = ("map", "carry", "gather", "look", "both", "beside")
@@ -95,7 +93,7 @@ def _on_the_way(scheme, one, part):
 def fits_in(scheme, room, one):
     """Does a pass fit in a room?"""
     quarter = room // 4
-    if quarters_in(scheme, one) > _MOST_QUARTERS or fixed_in(scheme, one) > quarter:
+    if quarters_in(scheme, one) > MOST_QUARTERS or fixed_in(scheme, one) > quarter:
         return False
     return all([has_its_size(scheme, quarter, part) and has_its_fans(scheme, quarter, part) for part in one])
 

@@ -5,6 +5,7 @@ from rowhaul.words.wholes import check_from
 MOST_ROOM = 10 ** 6
 MOST_RUNS = 16
 LEAST_FAN = 2
+MOST_QUARTERS = 3
 
 _SHARES = {"left": 1, "right": 1, "merge": 1, "meet": 3, "block": 2}
 
@@ -49,8 +50,8 @@ def fan_in(scheme, quarter, part):
     return tuple([quarter // cast_width(scheme, caster) for caster in scheme.casters_of(part)])
 
 
-def _most_cast(scheme, part):
-    """How many records a part casts at the most: a meet what it joins, another one its stream."""
+def most_coming(scheme, part):
+    """How many records come to a part at the most: to a meet what it joins, to another one its stream."""
     return scheme.mosts[part[0] if part[1] == "meet" else scheme.stream_of(part)]
 
 
@@ -61,7 +62,7 @@ def has_its_size(scheme, quarter, part):
         return True
     if size < 1:
         return False
-    return part[1] == "block" or _most_cast(scheme, part) <= MOST_RUNS * size
+    return part[1] == "block" or most_coming(scheme, part) <= MOST_RUNS * size
 
 
 def has_its_fans(scheme, quarter, part):

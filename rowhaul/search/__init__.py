@@ -1,0 +1,1 @@
+"""Closed sets of parts, plans of least words, least rooms, and the papers that show them."""
