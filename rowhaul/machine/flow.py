@@ -8,8 +8,8 @@ from rowhaul.plans.passes import stored_in
 from rowhaul.plans.sizes import size_in
 from rowhaul.words.sorting import by_keys
 
-_COUNTED = ("step", "cast", "left", "right", "meet")
-_CASTS = ("cast", "left", "right", "meet")
+COUNTED = ("step", "cast", "left", "right", "meet")
+CASTS = ("cast", "left", "right", "meet")
 
 # What these hand on they hold nowhere.
 _UNDER_WAY = ("map", "carry", "gather", "look")
@@ -56,7 +56,7 @@ class Flow:
 
     def counts(self):
         """How many records came to each part that has not stopped, but drivers; to a meet those joined."""
-        return tuple([(part, self._came.get(part, 0)) for part in self.parts_on() if part[1] in _COUNTED])
+        return tuple([(part, self._came.get(part, 0)) for part in self.parts_on() if part[1] in COUNTED])
 
     def hand_on(self, k, record):
         """Write a record of a node, where that is stored, and let it come to the parts whose stream the node is."""
@@ -121,7 +121,7 @@ class Flow:
 
     def close(self, part):
         """Hand on the last group, or write the last run."""
-        if part[1] in _CASTS:
+        if part[1] in CASTS:
             self._write_run(part)
             return
         record = ended_in(self._scheme.nodes[part[0]], self._held.held(("step", part)))

@@ -2,7 +2,7 @@
 
 from rowhaul.machine.casts import keys_in, least_place
 from rowhaul.machine.places import Places
-from rowhaul.merges.trees import least
+from rowhaul.merges.trees import least_in
 
 
 def run_names(store, part):
@@ -16,7 +16,7 @@ def merging_of(store, part, fan):
     lengths = tuple([store.how_many(name) for name in run_names(store, part)])
     if len(lengths) <= fan:
         return ()
-    return least(lengths, fan)[1]
+    return least_in(lengths, fan)[1]
 
 
 def standing(store, part, merging):

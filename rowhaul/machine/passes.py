@@ -9,7 +9,7 @@ from rowhaul.plans.passes import driver_in, told_in
 from rowhaul.plans.schemes import Scheme
 from rowhaul.plans.sizes import fan_in
 
-_END = (("end",), (), (), ())
+END = (("end",), (), (), ())
 _CLOSED = ("cast", "left", "right", "meet")
 
 
@@ -136,5 +136,5 @@ class Doing:
     def now(self):
         """The phase of the next turn, what is read, how many records came, what is held."""
         if self.is_over():
-            return _END
+            return END
         return (self._stage.phase(), self._stage.reads(), self._flow.counts(), self._held.holders())

@@ -4,7 +4,7 @@ from rowhaul.errors import AtEnd, Missing, NoNumber
 from rowhaul.words.wholes import is_several, is_whole
 
 
-def _is_name(thing):
+def is_file_name(thing):
     """Is it of the form of a name of a file?"""
     if not isinstance(thing, tuple) or len(thing) == 0:
         return False
@@ -12,10 +12,11 @@ def _is_name(thing):
         return len(thing) == 2 and is_whole(thing[1])
     if thing[0] not in ("run", "ahead") or len(thing) != 3:
         return False
-    return _is_part(thing[1]) and is_whole(thing[2])
+    return is_part_like(thing[1]) and is_whole(thing[2])
 
 
-def _is_part(thing):
+def is_part_like(thing):
+    """Is it a number and a word, as a part is?"""
     return is_several(thing, 2, 2) and is_whole(thing[0]) and isinstance(thing[1], str)
 
 
@@ -32,7 +33,7 @@ class Store:
 
     def _check(self, name):
         """Refuse the name of no file. True is 1 as a key, so the form is looked at first."""
-        if not _is_name(name) or name not in self._rows:
+        if not is_file_name(name) or name not in self._rows:
             raise Missing(name)
 
     def rows_in(self, name):

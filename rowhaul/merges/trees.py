@@ -44,6 +44,11 @@ def _is_merge(thing, fan, standing):
 def least(lengths, fan):
     """How many are moved at the least, and a merging that moves no more."""
     check_lengths(lengths, fan)
+    return least_in(lengths, fan)
+
+
+def least_in(lengths, fan):
+    """How many are moved at the least, and a merging that moves no more, of however many and long runs."""
     if len(lengths) == 0:
         return (0, ())
     costs = least_costs(lengths, fan)

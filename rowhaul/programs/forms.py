@@ -2,7 +2,7 @@
 
 from rowhaul.errors import NoNode, NoProgram, NoTables
 from rowhaul.programs.shapes import inputs_in, most_in, mosts_in, width_in, widths_in
-from rowhaul.words.exprs import is_expr, is_word
+from rowhaul.words.exprs import is_expr, is_record, is_word
 from rowhaul.words.folds import is_fold
 from rowhaul.words.wholes import is_from, is_rising, is_several
 
@@ -209,6 +209,13 @@ def inputs_of(program, node):
     """The numbers of the nodes that a node reads: i, then j."""
     check_node(program, node)
     return inputs_in(program[0][node])
+
+
+def is_rows(thing):
+    """Are they rows, of one width, and no more than a node may have?"""
+    if not is_several(thing, 0, MOST_ROWS) or not all([is_record(record) for record in thing]):
+        return False
+    return all([len(record) == len(thing[0]) for record in thing])
 
 
 def is_tables(program, thing):

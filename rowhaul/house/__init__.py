@@ -1,0 +1,1 @@
+"""Houses: tables and programs that change, asked again and again."""

@@ -1,0 +1,1 @@
+"""What is told ahead: of rooms, and of tables that change."""
