@@ -51,6 +51,12 @@ BOTH = Led(alone(SALE, NAMES, ("both", 0, 1), ("carry", 2, ("plus", ("was",), ("
            ((), (((2, "both"), (3, "step")),)), {"sale": numbered(3, 4), "names": numbered(8, 9)})
 BESIDE = Led(alone(SALE, NAMES, ("beside", 0, 1), ("gather", 2, 1, (("sum", 1),)), outputs=(2, 3)), 100,
              ((), (((2, "beside"), (3, "step")),)), {"sale": numbered(3, 3, 4), "names": numbered(8, 9, 1)})
+# Left casts runs of 7, right of 9: of both more stand than can be read together.
+BOTH_AHEAD = Led(alone(("read", "sale", ((0, 9), (0, 99), (0, 1), (0, 1)), 60),
+                       ("read", "names", ((0, 9), (0, 99), (0, 1), (0, 1)), 120), ("look", 0, 1, 0, 0)), 148,
+                 (((2, "met"),), (((2, "left"),), ((2, "right"),), ((2, "meet"),), ((2, "merge"),))),
+                 {"sale": tuple((7 * k - 7 * k // 10 * 10, k, 0, 1) for k in range(60)),
+                  "names": tuple((3 * k - 3 * k // 10 * 10, k - k // 100 * 100, 1, 0) for k in range(100))})
 BY_HAND = (SORTED, NARROW, KEPT, BLOCKED, MET, BOTH, BESIDE)
 
 

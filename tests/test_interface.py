@@ -26,6 +26,10 @@ FUNCTIONS = {
     "search.rooms": "least_room(program) room_paper(program) shows_room(program,thing)",
     "machine.steps": "step_begin(program,k) stepped(program,k,held,record,number,*,table=()) step_end(program,k,held)",
     "machine.casts": "keys_of(program,part) cast_sorted(program,part,records) least_head(program,part,heads)",
+    "running.states": "is_state(program,room,plan,thing)",
+    "running.run": "run_from(program,room,plan,state)",
+    "telling.stairs": "stairs(program,low,high) stairs_paper(program,low,high) shows_stairs(program,low,high,thing)",
+    "telling.touched": "touched(program,room,plan,names) may_move(program,room,plan,names)",
     "texts.programs": "node_text(program,node) program_text(program) read_program(text)",
     "texts.plans": "plan_text(program,room,plan) read_plan(program,room,text)",
 }
@@ -39,6 +43,12 @@ CLASSES = {
                                   "turn(self,take) is_over(self) phase(self) reads(self) fault(self)"),
     "machine.passes": ("Doing", "__init__(self,program,room,plan,number,store,*,below=None,now=(),own=()) turn(self) "
                                 "is_over(self) fault(self) words(self) turned(self) peak(self) now(self)"),
+    "running.run": ("Run", "__init__(self,program,room,plan,tables) turn(self) go(self,turns) finish(self) is_over(self) "
+                           "outcome(self) words(self) turned(self) peaks(self) lost(self) fall(self) state(self)"),
+    "house.house": ("House", "__init__(self) put(self,name,rows) change(self,name,number,record) "
+                             "put_in(self,name,number,record) strike(self,name,number) lead(self,name,program,room,*,plan=None) "
+                             "drop(self,name) tables(self) programs(self) ask(self,name) begin(self,name) go(self,turns) "
+                             "fall(self) leave(self) finish(self) is_busy(self)"),
 }
 ROOT = Path(__file__).resolve().parent.parent
 

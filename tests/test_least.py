@@ -251,6 +251,8 @@ class Shows(unittest.TestCase):
         # A closed set may stand there that nothing leads to, but not that of all parts.
         more = (((), 0), ((CAST,), 7))
         self.assertEqual(shows_least(SORT, 15, (None, (more, nothing[0]))), ("none",))
+        below = (((), 0), ((CAST,), -1))
+        self.assertIsNone(shows_least(SORT, 15, (None, (below, nothing[0]))))
         whole = (((), 0), ((CAST, MERGE), 7))
         self.assertIsNone(shows_least(SORT, 15, (None, (whole, nothing[0]))))
         for thing in (self.PLAN, (), False, 0):

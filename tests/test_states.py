@@ -7,7 +7,7 @@ from rowhaul.plans.passes import told_room
 from rowhaul.programs.plain import plain
 from rowhaul.running.run import Run, run_from
 from rowhaul.running.states import is_state
-from tests.runs import (BESIDE, BLOCKED, BOTH, BY_HAND, KEPT, MET, N0, N1, NAMES, NARROW, OVER, SALE, SORTED, UP, Led,
+from tests.runs import (BESIDE, BLOCKED, BOTH, BOTH_AHEAD, BY_HAND, KEPT, MET, N0, N1, NAMES, NARROW, OVER, SALE, SORTED, UP, Led,
                         many_led, numbered)
 from tests.test_run import run_of, words_held
 from tests.things import ANYTHING, NO_WHOLE, TOP, Unchanged, alone
@@ -85,6 +85,51 @@ class Told(unittest.TestCase):
             for state in states_of(led):
                 with Unchanged(self, state, led.asked):
                     self.assertTrue(is_state(*led.asked, state))
+
+    def test_both_sides_ahead(self):
+        states = states_of(BOTH_AHEAD)
+        left, right = (2, "left"), (2, "right")
+        self.assertEqual({state[PHASE][:2] for state in states if state[DONE] == 2},
+                         {("ahead", left), ("ahead", right), ("drive",), ("close", (2, "meet"))})
+        for at, state in enumerate(states):
+            if state[DONE] == 2 and state[PHASE][0] == "ahead":
+                self.assertTrue(is_state(*BOTH_AHEAD.asked, state))
+                run = run_from(*BOTH_AHEAD.asked, state)
+                self.assertEqual(run.state(), state)
+                run.turn()
+                self.assertEqual(run.state(), states[at + 1])
+                if state[PHASE][1] == right:
+                    # All that left's pairs made is there.
+                    made = [name for name, _ in state[STORE] if name[:2] == ("ahead", left)]
+                    self.assertGreater(len(made), 0)
+                    self.assertFalse(is_state(*BOTH_AHEAD.asked, with_file(state, made[-1], None)))
+                else:
+                    more = with_file(state, ("ahead", right, 0), ((1, 1, 1, 1),))
+                    self.assertFalse(is_state(*BOTH_AHEAD.asked, more))
+        self.assertEqual(run_from(*BOTH_AHEAD.asked, states[-1]).outcome(), plain(BOTH_AHEAD.program, BOTH_AHEAD.tables))
+
+    def test_one_side_without_rows(self):
+        for sale, names in (((), numbered(3, 4)), (numbered(3, 4), ()), ((), ()), (numbered(3), numbered(4))):
+            led = Led(MET.program, MET.room, MET.plan, {"sale": sale, "names": names})
+            for state in states_of(led):
+                self.assertTrue(is_state(*led.asked, state))
+                self.assertEqual(run_from(*led.asked, state).state(), state)
+
+    def test_files_of_passes_ahead_of_a_fault(self):
+        """What was made of greater nodes ahead of a fault, and in the pass that met it, is there still."""
+        program = alone(SALE, ("map", 0, (OVER,)), ("keep", 0, 1), ("keep", 0, 1), outputs=(1, 2, 3))
+        plan = ((), (((3, "step"),), ((1, "step"), (2, "step"))))
+        led = Led(program, 100, plan, {"sale": numbered(2, 4, 0, 3)})
+        end = states_of(led)[-1]
+        self.assertEqual((end[LOWEST], [name for name, _ in end[STORE]]),
+                         (((1, 2, "nought"), ()), [N0, N1, ("node", 2), ("node", 3)]))
+        for state in states_of(led):
+            self.assertTrue(is_state(*led.asked, state))
+        # Behind a third pass, too, whose number is greater.
+        plan = ((), (((3, "step"),), ((1, "step"),), ((2, "step"),)))
+        led = Led(program, 100, plan, {"sale": numbered(2, 4, 0, 3)})
+        for state in states_of(led):
+            self.assertTrue(is_state(*led.asked, state))
 
     def test_of_many(self):
         own, ahead = 0, 0
@@ -266,6 +311,83 @@ class NoStates(unittest.TestCase):
                         continue
                     self.none(led, bent(state, PHASE, phase))
 
+    def test_numbers_of_pairs(self):
+        cast = (1, "cast")
+        for state in states_of(NARROW):
+            if state[PHASE][0] == "ahead":
+                for pairs in (None, "0", [0], (0,), 10 ** 59, -1, state[PHASE][2] == 1):
+                    self.none(NARROW, bent(state, PHASE, ("ahead", cast, pairs)))
+
+    def test_behind_all_nothing_is_at_hand(self):
+        for led in BY_HAND:
+            state = states_of(led)[-1]
+            last = states_of(led)[-2]
+            self.none(led, bent(state, READS, ((0, N0, 0),)), bent(state, COUNTS, (((1, "step"), 0),)),
+                      bent(state, HELD, ((("step", (1, "step")), ((1,),)),)), bent(state, PHASE, last[PHASE]))
+
+    def test_a_merge_and_a_meet_of_no_runs(self):
+        for led, done in ((SORTED, 1), (MET, 2)):
+            state = [one for one in states_of(led) if one[DONE] == done][0]
+            for name, _ in state[STORE]:
+                if name[0] == "run":
+                    state = with_file(state, name, None)
+            self.none(led, bent(state, READS, ()), state)
+
+    def test_both_and_beside(self):
+        first, then = states_of(BOTH)[0], states_of(BOTH)[2]
+        self.assertTrue(is_state(*BOTH.asked, with_reads(first, 2, 0)))
+        self.assertTrue(is_state(*BOTH.asked, with_reads(then, 1, 0)))
+        # None of j is read as long as i has more.
+        self.none(BOTH, with_reads(first, 1, 1), with_reads(first, 0, 1), with_reads(then, 2, 2), with_reads(first, 0, 2))
+        state = states_of(BESIDE)[1]
+        self.assertTrue(is_state(*BESIDE.asked, with_reads(state, 2, 2)))
+        self.none(BESIDE, with_reads(state, 3, 3), with_reads(state, 2, 1), with_reads(state, 1, 2))
+
+    def test_what_a_block_is_joined_to(self):
+        block = ("block", (2, "block"))
+        hold, more = [one for one in states_of(BLOCKED) if one[PHASE] == ("hold",)][:2]
+        self.assertEqual([one[READS][1][2] for one in (hold, more)], [0, 1])
+        joined = ((3, 0, 9, 9), (4, 1))
+        self.none(BLOCKED, with_held(hold, block, joined))
+        self.assertTrue(is_state(*BLOCKED.asked, with_held(more, block, joined)))
+        # Of a table without rows nothing is ever joined.
+        hand = [one for one in states_of(BLOCKED) if one[PHASE] == ("hand",)][0]
+        for rows in ((), None):
+            empty = with_reads(with_file(hand, N1, ()), 2, 0)
+            self.none(BLOCKED, with_held(empty, block, joined))
+            self.assertTrue(is_state(*BLOCKED.asked, with_held(empty, block, ((3, 0), (4, 1)))))
+        one = with_reads(with_file(hand, N1, ((5, 5),)), 2, 1)
+        self.assertTrue(is_state(*BLOCKED.asked, with_held(one, block, joined)))
+
+    def test_a_block_that_is_not_full(self):
+        """As long as i has more it is filled up ahead."""
+        block = ("block", (2, "block"))
+        first = [one for one in states_of(BLOCKED) if one[PHASE] == ("hold",)][0]
+        last = [one for one in states_of(BLOCKED) if one[PHASE] == ("hold",)][-1]
+        self.none(BLOCKED, with_held(first, block, ((3, 0),)))
+        self.assertTrue(is_state(*BLOCKED.asked, with_held(last, block, ((3, 0),))))
+
+    def test_a_fault_of_a_pass_behind(self):
+        led = Lowest.LED
+        run = run_of(led)
+        while run.state()[DONE] < 1:
+            run.turn()
+        state = run.state()
+        for k, expected in ((1, False), (2, False), (3, False), (4, False)):
+            fault = (k, 0, "great")
+            self.assertEqual(is_state(*led.asked, bent(state, LOWEST, ((), fault))), expected)
+            self.assertEqual(is_state(*led.asked, bent(bent(state, LOWEST, ((), fault)), COUNTS, ())), k == 2)
+
+    def test_what_is_found_was_taken(self):
+        led = Led(MET.program, MET.room, MET.plan, {"sale": numbered(1, 2, 6), "names": numbered(5, 7)})
+        found = ("found", (2, "meet"))
+        states = [one for one in states_of(led) if one[DONE] == 2 and one[PHASE] == ("drive",)]
+        self.assertEqual([found in dict(one[HELD]) for one in states], [False, False, False, True, True])
+        for state in states[:3]:
+            self.none(led, with_held(state, found, ((5, 0),)))
+        for state in states[3:]:
+            self.assertTrue(is_state(*led.asked, with_held(state, found, ((5, 0),))))
+
     def test_a_pass_that_is_left_out(self):
         program = alone(SALE, ("map", 0, (OVER,)), ("keep", 0, 1), outputs=(1, 2))
         led = Led(program, 100, ((), (((1, "step"),), ((2, "step"),))), {"sale": numbered(2, 0)})
@@ -349,11 +471,13 @@ class NoStates(unittest.TestCase):
                 there = dict(state[HELD])
                 for holder in (("way", (1, "step")), ("way", (0, "file")), ("found", (2, "meet")), ("kept", (3, "cast")),
                                ("block", (2, "block")), ("heads", (2, "meet")), ("cast", (9, "cast")), ("step", (0, "step")),
-                               ("cast", (1, "step")), ("none", (1, "step")), (("step",), (1, "step"))):
-                    if holder not in there and not is_state(*led.asked, with_held(state, ("step", (3, "step")), ((1, 2),))):
-                        # A block that isn't full holds one record more, so its own holder is looked at elsewhere.
-                        if not (led is BLOCKED and holder[0] == "block"):
-                            self.none(led, bent(state, HELD, tuple(sorted({**there, holder: ((1, 2),)}.items(), key=repr))))
+                               ("cast", (1, "step")), ("none", (1, "step"))):
+                    # These two may hold such a record: they are looked at elsewhere.
+                    if holder not in there and (led, holder[0]) not in ((BLOCKED, "block"), (MET, "found")):
+                        self.none(led, with_held(state, holder, ((1, 2),)))
+                for holder in ((("step",), (1, "step")), ("cast", [1, "cast"]), ("cast", 1), ("cast", None), "cast", ("cast",),
+                               ("cast", (True, "cast")), ("cast", (1,)), ("cast", (1, ["cast"])), ("cast", (1, "cast"), 0)):
+                    self.none(led, bent(state, HELD, state[HELD] + ((holder, ((1, 2),)),)))
                 for holder, records in state[HELD]:
                     if records[0] == ():
                         continue
@@ -602,10 +726,10 @@ class Files(unittest.TestCase):
     def test_behind_a_fault_no_pass_makes_more(self):
         program = alone(SALE, ("map", 0, (OVER,)), ("keep", 0, 1), ("sort", 0, UP), outputs=(1, 2, 3))
         plan = (((3, "half"),), (((1, "step"), (2, "step")), ((3, "cast"),), ((3, "merge"),)))
-        led = Led(program, 100, plan, {"sale": numbered(2, 0)})
+        led = Led(program, 100, plan, {"sale": numbered(2, 4, 5, 0)})
         end = states_of(led)[-1]
-        self.assertEqual([name for name, _ in end[STORE]], [N0, N1, ("node", 2)])
-        self.is_one(led, with_file(end, ("node", 2), numbered(2, 0)), True)
+        self.assertEqual((end[LOWEST][0], [name for name, _ in end[STORE]]), ((1, 3, "nought"), [N0, N1, ("node", 2)]))
+        self.is_one(led, with_file(end, ("node", 2), numbered(2)), True)
         for name in (("node", 3), ("run", (3, "cast"), 0)):
             self.is_one(led, with_file(end, name, ((1, 1),)), False)
         without = bent(end, LOWEST, ((), ()))
@@ -712,6 +836,30 @@ class Lowest(unittest.TestCase):
             bended = bent(state, LOWEST, ((), (2, 0, "nought")))
             bended = bent(bent(bended, COUNTS, ()), HELD, ())
             self.assertEqual(is_state(*led.asked, bended), state[PHASE] == ("drive",))
+
+    def test_none_of_this_pass_amid_ahead_and_kept(self):
+        """Also where what the phase is of would not have stopped."""
+        program = alone(SALE, ("sort", 0, UP), ("map", 1, (OVER,)), ("look", 1, 0, 0, 0), ("map", 3, (OVER,)),
+                        outputs=(2, 3, 4))
+        ways = ((1, "half"), (3, "kept"))
+        plan = (ways, (((1, "cast"),), ((1, "merge"), (2, "step"), (3, "step"), (4, "step"))))
+        led = Led(program, 520, plan, {"sale": numbered(*[k - k // 9 * 9 + 1 for k in range(60)])})
+        phases = set()
+        for state in states_of(led):
+            if state[DONE] != 1:
+                continue
+            phases.add(state[PHASE][0])
+            bended = bent(state, LOWEST, ((), (4, 0, "nought")))
+            bended = bent(bended, COUNTS, tuple(entry for entry in state[COUNTS] if entry[0][0] < 4))
+            self.assertEqual(is_state(*led.asked, bended), state[PHASE][0] == "drive")
+        self.assertEqual(phases, {"kept", "drive"})
+        program = alone(SALE, ("sort", 0, UP), ("map", 1, (OVER,)))
+        plan = (((1, "half"),), (((1, "cast"),), ((1, "merge"), (2, "step"))))
+        led = Led(program, 16, plan, {"sale": numbered(*[k - k // 9 * 9 + 1 for k in range(60)])})
+        for state in states_of(led):
+            if state[DONE] == 1:
+                bended = bent(bent(state, LOWEST, ((), (2, 0, "nought"))), COUNTS, ())
+                self.assertEqual(is_state(*led.asked, bended), state[PHASE][0] == "drive")
 
     def test_an_uneven_one_ends_its_pass(self):
         for state in states_of(BESIDE)[:-1]:

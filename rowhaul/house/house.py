@@ -1,9 +1,8 @@
 """Houses: tables and programs that change, and what is asked of them."""
 
-from rowhaul.errors import Busy, Missing, NoNumber, NoPlan, NoTables, Over, Unfit
+from rowhaul.errors import Busy, Missing, NoNumber, NoTables, Over, Unfit
 from rowhaul.plans.plans import check_plan
-from rowhaul.plans.sizes import check_room
-from rowhaul.programs.forms import check_program, is_name, is_rows, is_tables
+from rowhaul.programs.forms import is_name, is_rows, is_tables
 from rowhaul.running.courses import MOST_TURNS, Course
 from rowhaul.running.files import begun_store
 from rowhaul.search.least import least
@@ -89,11 +88,8 @@ class House:
         """Lead a program by a plan, one of the least words where none is handed in: nothing of it is done yet."""
         self._check_free()
         _check_name(name)
-        check_program(program)
-        check_room(room)
+        # Where there is none at all None is told, which is no plan either.
         told = least(program, room)[0] if plan is None else plan
-        if told is None:
-            raise NoPlan("no plan in this room")
         check_plan(program, room, told)
         if not is_tables(program, self._tables):
             raise Unfit(name)

@@ -121,7 +121,8 @@ class Course:
         if self.is_over():
             return
         self._lost += self._doing.words()
-        for name, _ in files_made(self._scheme, self._passes[self._done], self._store):
+        names = [name for name, _ in files_made(self._scheme, self._passes[self._done], self._store)]
+        for name in names:
             self._store.take_off(name)
         self._doing = self._doing_at((), ())
         self._come_on()

@@ -89,7 +89,7 @@ class Spot:
 
     def carries(self):
         """What carries hold from the pass's begin on."""
-        return [(("step", part), 1, 1, (1,)) for part in self.on if self._is_step(part, "carry")]
+        return [(("step", part), 1, 1, (1,)) for part in self.on if self._is_of(part, "carry")]
 
     def tables(self):
         """What kept looks hold behind the phase in which they are read: the whole tables."""
@@ -104,19 +104,20 @@ class Spot:
         """What gathers and casts among some parts hold while records come."""
         told = []
         for part in parts:
-            if self._is_step(part, "gather"):
+            if self._is_of(part, "gather"):
                 told.append((("step", part), 0, 1, (self.scheme.widths[part[0]],)))
             if part[1] in CASTS:
                 most = size_in(self.scheme, self.room // 4, part) - 1
                 told.append((("cast", part), 0, most, (cast_width(self.scheme, part),)))
         return told
 
-    def _is_step(self, part, word):
-        return part[1] == "step" and self.scheme.nodes[part[0]][0] == word
+    def _is_of(self, part, word):
+        """Is a part one of a node of this word?"""
+        return self.scheme.nodes[part[0]][0] == word
 
     def has_close(self, part):
         """Has a part that has not stopped a turn at the close?"""
-        return part in self.on and (part[1] in CASTS or self._is_step(part, "gather"))
+        return part in self.on and (part[1] in CASTS or self._is_of(part, "gather"))
 
     def inputs(self):
         """The inputs of the driver's node."""

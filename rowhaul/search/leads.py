@@ -69,7 +69,7 @@ class Leads:
 
 
 class Search:
-    """All ways of a program, each with its leads; or TooWide."""
+    """All ways of a program, each with its leads. What is no program is refused, then what is too wide."""
 
     def __init__(self, program):
         self.program = program

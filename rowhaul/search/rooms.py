@@ -1,16 +1,9 @@
 """Least rooms, and papers that show them."""
 
 from rowhaul.plans.sizes import MOST_ROOM
-from rowhaul.programs.forms import check_program
 from rowhaul.search.leads import Search
 from rowhaul.search.least import paper_in, shown_in
 from rowhaul.words.wholes import is_from, is_several
-
-
-def _search_of(program):
-    """All ways of a program; what is no program, then what is too wide, is refused."""
-    check_program(program)
-    return Search(program)
 
 
 def _least_in(search):
@@ -28,19 +21,19 @@ def _least_in(search):
 
 def least_room(program):
     """The least room in which there is a plan."""
-    return _least_in(_search_of(program))
+    return _least_in(Search(program))
 
 
 def room_paper(program):
     """The least room, a paper that shows a plan there, and one that shows that there is none in a room one less."""
-    search = _search_of(program)
+    search = Search(program)
     room = _least_in(search)
     return (room, paper_in(search, room), paper_in(search, room - 1) if room > 0 else None)
 
 
 def shows_room(program, thing):
     """The least room that a paper shows, or None of what shows none."""
-    search = _search_of(program)
+    search = Search(program)
     if not is_several(thing, 3, 3) or not is_from(thing[0], 0, MOST_ROOM):
         return None
     room, one, other = thing

@@ -5,7 +5,7 @@ from rowhaul.plans.words import plan_words
 from rowhaul.programs.forms import check_program
 from rowhaul.search.leads import Search
 from rowhaul.search.least import paper_in, shown_in
-from rowhaul.words.wholes import check_from, is_from, is_rising, is_several
+from rowhaul.words.wholes import check_from, is_from, is_several
 
 _MOST_APART = 40
 
@@ -64,10 +64,10 @@ def shows_stairs(program, low, high, thing):
     if not isinstance(thing, tuple) or not all([is_several(entry, 2, 2) for entry in thing]):
         return None
     rooms = [room for room, _ in thing]
-    if not all([is_from(room, low, high) for room in rooms]) or not is_rising(rooms):
+    if rooms[:1] != [low] or not all([is_from(room, low, high) for room in rooms]):
         return None
     shown = [shown_in(search, room, paper) for room, paper in thing]
-    if None in shown or low not in rooms or high not in rooms:
+    if None in shown:
         return None
     told = [(room, one[1] if one[0] == "plan" else None) for room, one in zip(rooms, shown)]
     steps = told[:1]
